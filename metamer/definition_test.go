@@ -1,8 +1,8 @@
 package metamer_test
 
 // What the chapter defines, written down once more in the plainest way, and
-// compared with the functions on all small cases and palettes and many great
-// ones.
+// compared with the functions on many small cases and palettes, and on some
+// great ones.
 
 import (
 	"iter"
@@ -140,9 +140,10 @@ func smallRanges(most int64) []api.Range {
 	return l
 }
 
-// P4.2 to P4.6 for all cases with one band and ends up to 2, but for the curves,
-// of which one has ends up to 2, and the others are equal to it or known.
-func TestAllSmallCases(t *testing.T) {
+// P4.2 to P4.6 for one band: the lamp and the first curve have all ranges with
+// ends up to 2, the second curve some of them, and the third one is the same in
+// all cases.
+func TestOneBand(t *testing.T) {
 	for _, lamp := range smallRanges(2) {
 		for _, first := range smallRanges(2) {
 			for _, second := range []api.Range{first, rg(0, 0), rg(1, 1), rg(0, 1)} {
@@ -160,9 +161,10 @@ func TestAllSmallCases(t *testing.T) {
 	}
 }
 
-// P4.2 to P4.6 for all cases with two bands in which the curves are the same in
-// both bands, and one lamp is.
-func TestAllSmallLamps(t *testing.T) {
+// P4.2 to P4.6 for two bands, for all chips with numbers up to 2: the lamp, which
+// is the same in both bands, and the first curve in the first band have all
+// ranges with ends up to 2; the rest is the same in all cases.
+func TestTwoBands(t *testing.T) {
 	small := smallRanges(2)
 	for _, lamp := range small {
 		for _, curve := range small {
